@@ -1,0 +1,1 @@
+"""Stagehall, layer b: cue sheets."""
