@@ -1,4 +1,4 @@
-"""Cue sheets: cues that tell only what moves, and the calls that change them.
+"""Cue sheets: cues that tell only what moves, and the calls that change them or ask of them.
 
 A sheet is a dict of its cues by their numbers. A look is a list of levels
 whose place is the channel; place 0 stands for no channel and stays 0.
@@ -21,8 +21,14 @@ RELEASE = 1
 DELETE = 2
 COPY = 3
 BLOCK = 4
+UNBLOCK = 5
+CLEAN = 6
+CUES = 7
+MOVES = 8
+LOOK = 9
+TRACK = 10
 
-NUMBERS_BEHIND = {0: 4, 1: 3, 2: 2, 3: 3, 4: 1, 5: 1}
+NUMBERS_BEHIND = {0: 4, 1: 3, 2: 2, 3: 3, 4: 1, 5: 1, 6: 0, 7: 0, 8: 1, 9: 1, 10: 1, 11: 2}
 
 
 class Cue:
@@ -186,24 +192,101 @@ def unblock_cue(sheet, number):
     return len(sheet)
 
 
-def answer_to(sheet, call, numbers):
-    """All numbers that one call answers."""
+def clean_sheet(sheet):
+    """Take the needless moves of cues that aren't blocked away; answer how many moves are left."""
+    for number in sorted(sheet):
+        if not sheet[number].blocked:
+            drop_needless(sheet, number)
+    return sum([len(sheet[number].moves) for number in sorted(sheet)])
+
+
+def told_cues(sheet):
+    told = [len(sheet)]
+    for number in sorted(sheet):
+        told.extend([number, 1 if sheet[number].blocked else 0])
+    return told
+
+
+def told_moves(sheet, number):
+    if number not in sheet:
+        return [NO_CUE]
+    moves = sheet[number].moves
+    told = [len(moves)]
+    for channel in sorted(moves):
+        told.extend([channel, moves[channel]])
+    return told
+
+
+def told_look(sheet, number):
+    if number not in sheet:
+        return [NO_CUE]
+    return [0] + look_at(sheet, number)[1:]
+
+
+def told_track(sheet, channel):
+    if not is_channel(channel):
+        return [IMPOSSIBLE]
+    told = [len(sheet)]
+    level = 0
+    for number in sorted(sheet):
+        moves = sheet[number].moves
+        level = moves.get(channel, level)
+        told.extend([level, 1 if channel in moves else 0])
+    return told
+
+
+def told_differences(sheet, first, second):
+    if first not in sheet or second not in sheet:
+        return [NO_CUE]
+    here = look_at(sheet, first)
+    there = look_at(sheet, second)
+    channels = [channel for channel in range(1, LAST_CHANNEL + 1) if here[channel] != there[channel]]
+    told = [len(channels)]
+    for channel in channels:
+        told.extend([channel, here[channel], there[channel]])
+    return told
+
+
+def changed(sheet, call, numbers):
+    """The one number that a call answers which changes the sheet."""
     if call == RECORD:
-        return [record_move(sheet, numbers[0], numbers[1], numbers[2], numbers[3])]
+        return record_move(sheet, numbers[0], numbers[1], numbers[2], numbers[3])
     if call == RELEASE:
-        return [release_move(sheet, numbers[0], numbers[1], numbers[2])]
+        return release_move(sheet, numbers[0], numbers[1], numbers[2])
     if call == DELETE:
-        return [delete_cue(sheet, numbers[0], numbers[1])]
+        return delete_cue(sheet, numbers[0], numbers[1])
     if call == COPY:
-        return [copy_cue(sheet, numbers[0], numbers[1], numbers[2])]
+        return copy_cue(sheet, numbers[0], numbers[1], numbers[2])
     if call == BLOCK:
-        return [block_cue(sheet, numbers[0])]
-    # NUMBERS_BEHIND lets no other call come this far.
-    return [unblock_cue(sheet, numbers[0])]
+        return block_cue(sheet, numbers[0])
+    if call == UNBLOCK:
+        return unblock_cue(sheet, numbers[0])
+    return clean_sheet(sheet)
 
 
-def answers_on(sheet, calls):
-    """The answers to calls that are made on this sheet, which they change."""
+def asked(sheet, call, numbers):
+    """All numbers that a call answers which only asks."""
+    if call == CUES:
+        return told_cues(sheet)
+    if call == MOVES:
+        return told_moves(sheet, numbers[0])
+    if call == LOOK:
+        return told_look(sheet, numbers[0])
+    if call == TRACK:
+        return told_track(sheet, numbers[0])
+    # NUMBERS_BEHIND lets no call but differ come this far.
+    return told_differences(sheet, numbers[0], numbers[1])
+
+
+def answer_to(sheet, call, numbers):
+    if call <= CLEAN:
+        return [changed(sheet, call, numbers)]
+    return asked(sheet, call, numbers)
+
+
+def answers(calls):
+    """For each call on a new sheet: how many numbers it answers, then these."""
+    sheet = {}
     told = []
     place = 0
     while place < len(calls):
@@ -214,8 +297,3 @@ def answers_on(sheet, calls):
         told.extend(answer)
         place = end
     return told
-
-
-def answers(calls):
-    """For each call on a new sheet: how many numbers it answers, then these."""
-    return answers_on({}, calls)

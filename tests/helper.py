@@ -1,11 +1,12 @@
-"""What the tests share: the calls as rows, and ways to see what a sheet holds."""
+"""What the tests share: the calls as rows, and ways to see what a sheet holds, through answers alone."""
 
-from cuesheets.sheets import answers, answers_on
+from cuesheets.sheets import answers
 
 ON = 0
 ALONE = 1
 BIGGEST = 4294967295
 CHANNELS = range(1, 65)
+MOST_CALLS = 400
 
 
 def record(cue, channel, level, how=ON):
@@ -32,6 +33,30 @@ def unblock(cue):
     return [5, cue]
 
 
+def clean():
+    return [6]
+
+
+def ask_cues():
+    return [7]
+
+
+def ask_moves(cue):
+    return [8, cue]
+
+
+def ask_look(cue):
+    return [9, cue]
+
+
+def ask_track(channel):
+    return [10, channel]
+
+
+def ask_differ(m, n):
+    return [11, m, n]
+
+
 def flat(rows):
     return [number for row in rows for number in row]
 
@@ -42,64 +67,79 @@ def split(numbers):
     place = 0
     while place < len(numbers):
         end = place + 1 + numbers[place]
+        assert place + 1 < end <= len(numbers), (place, end)
         found.append(numbers[place + 1:end])
         place = end
     return found
 
 
-def last(rows):
+def told_all(rows):
+    """What each of these calls, on a new sheet, answers."""
+    assert 1 <= len(rows) <= MOST_CALLS, len(rows)
+    found = split(answers(flat(rows)))
+    assert len(found) == len(rows), found
+    return found
+
+
+def told(rows):
     """What the last of these calls, on a new sheet, answers."""
-    answer = split(answers(flat(rows)))
-    assert len(answer) == len(rows), answer
-    assert len(answer[-1]) == 1, answer
-    return answer[-1][0]
+    return told_all(rows)[-1]
 
 
-def seen(sheet):
-    """A sheet's cues, moves and blocks, as values of their own."""
-    return {number: (dict(sheet[number].moves), sheet[number].blocked) for number in sorted(sheet)}
+def last(rows):
+    """The one number that the last of these calls, on a new sheet, answers."""
+    answer = told(rows)
+    assert len(answer) == 1, answer
+    return answer[0]
+
+
+def rows_of(answer, width):
+    """What an answer tells behind its first number, in rows of so many numbers, as many as that says."""
+    found = [tuple(answer[place:place + width]) for place in range(1, len(answer), width)]
+    assert answer[0] == len(found), answer
+    assert all(len(row) == width for row in found), answer
+    return found
+
+
+def cues(rows):
+    """The cues that a new sheet has after these calls, and whether each is blocked (1) or not (0)."""
+    return rows_of(told(rows + [ask_cues()]), 2)
 
 
 def state(rows):
-    """What a new sheet holds after these calls."""
-    sheet = {}
-    answers_on(sheet, flat(rows))
-    return seen(sheet)
+    """What a new sheet holds after these calls: of each cue its moves, and whether it's blocked."""
+    found = cues(rows)
+    asked = told_all(rows + [ask_moves(number) for number, blocked in found] + [ask_cues()])
+    answer = asked[len(rows):-1]
+    return {cue[0]: (dict(rows_of(given, 2)), bool(cue[1])) for cue, given in zip(found, answer, strict=True)}
 
 
 def moves(rows):
     return {number: cue[0] for number, cue in state(rows).items()}
 
 
-def level(held, number, channel):
-    """The channel's level at a cue: that of its last move there or before."""
+def looks(rows):
+    """The looks of all cues that a new sheet has after these calls, told by look."""
+    numbers = [number for number, blocked in cues(rows)]
+    answer = told_all(rows + [ask_look(number) for number in numbers] + [ask_cues()])[len(rows):-1]
+    for given in answer:
+        assert given[0] == 0 and len(given) == 65, given
+    return {number: given[1:] for number, given in zip(numbers, answer, strict=True)}
+
+
+def level(rows, cue, channel):
+    """The channel's level at a cue after these calls, told by look."""
+    return looks(rows)[cue][channel - 1]
+
+
+def tracked_level(held, number, channel):
+    """The level at a cue as the document defines it, from moves: that of the last there or before."""
     for other in sorted(held, reverse=True):
         if other <= number and channel in held[other][0]:
             return held[other][0][channel]
     return 0
 
 
-def looks(held):
-    """The looks of all cues, told from their moves without the program's help."""
-    return {number: [level(held, number, channel) for channel in CHANNELS] for number in held}
-
-
-def has_move(rows, cue, channel):
-    """Whether the cue has a move of the channel, asked through answers alone."""
-    return last(rows + [release(cue, channel)]) != -3
-
-
-def asked_level(rows, cue, channel):
-    """The channel's level at a cue, asked through answers alone.
-
-    A cue made right behind, blocked and unblocked, loses its move just when
-    the level was that before. The number right behind must be free.
-    """
-    behind = cue + 1
-    found = []
-    for guess in range(101):
-        probe = [record(behind, channel, guess), block(behind), unblock(behind)]
-        if not has_move(rows + probe, behind, channel):
-            found.append(guess)
-    assert len(found) == 1, found
-    return found[0]
+def tracked_looks(held):
+    """The looks of all cues, reckoned from their moves without the program's help."""
+    return {number: [tracked_level(held, number, channel) for channel in CHANNELS] for number in held}

@@ -7,12 +7,13 @@ class Model:
     def __init__(self):
         self.rows = []  # [number, [[channel, level], ..], blocked], in the order of the numbers
 
-    def seen(self):
-        return {number: (dict(map(tuple, moves)), blocked) for number, moves, blocked in self.rows}
-
     def answer(self, call):
-        calls = (self.record, self.release, self.delete, self.copy, self.block, self.unblock)
-        return calls[call[0]](*call[1:])
+        calls = (
+            self.record, self.release, self.delete, self.copy, self.block, self.unblock,
+            self.clean, self.cues, self.moves, self.look, self.track, self.differ,
+        )
+        answer = calls[call[0]](*call[1:])
+        return [answer] if isinstance(answer, int) else answer
 
     def row(self, number):
         for row in self.rows:
@@ -112,3 +113,46 @@ class Model:
         row[2] = False
         row[1] = [move for move in row[1] if self.level(self.rows, cue - 1, move[0]) != move[1]]
         return len(self.rows)
+
+    def clean(self):
+        # Needless is told of the sheet as it was: what goes changes no level before a cue.
+        old = copy.deepcopy(self.rows)
+        for row in self.rows:
+            if not row[2]:
+                row[1] = [move for move in row[1] if self.level(old, row[0] - 1, move[0]) != move[1]]
+        return len([move for row in self.rows for move in row[1]])
+
+    def cues(self):
+        return [len(self.rows)] + [number for row in self.rows for number in (row[0], int(row[2]))]
+
+    def moves(self, cue):
+        if self.row(cue) is None:
+            return -4
+        ordered = sorted(self.row(cue)[1], key=lambda move: move[0])
+        return [len(ordered)] + [number for move in ordered for number in move]
+
+    def look(self, cue):
+        if self.row(cue) is None:
+            return -4
+        return [0] + [self.level(self.rows, cue, channel) for channel in range(1, 65)]
+
+    def track(self, channel):
+        if channel < 1 or channel > 64:
+            return -1
+        answer = [len(self.rows)]
+        for number, moves, _ in self.rows:
+            answer.append(self.level(self.rows, number, channel))
+            answer.append(len([move for move in moves if move[0] == channel]))
+        return answer
+
+    def differ(self, m, n):
+        if self.row(m) is None or self.row(n) is None:
+            return -4
+        answer = [0]
+        for channel in range(1, 65):
+            here = self.level(self.rows, m, channel)
+            there = self.level(self.rows, n, channel)
+            if here != there:
+                answer[0] += 1
+                answer += [channel, here, there]
+        return answer

@@ -1,10 +1,9 @@
-"""Each call at ordinary inputs and at the edges that the document names."""
+"""Each call that edits, blocks or unblocks, at ordinary inputs and at the edges that the document names."""
 
 import unittest
 
 from tests.helper import (
-    ALONE, ON, asked_level, block, copy, delete, has_move, last, looks, moves, record, release,
-    state, unblock,
+    ALONE, ON, block, copy, delete, last, level, moves, record, release, state, unblock,
 )
 
 # Channel 1 moves in cues 10 and 40; cue 30 is the one that tests block.
@@ -41,8 +40,8 @@ class RecordTest(unittest.TestCase):
         expected = moves(PLAIN)
         expected[20] = {1: 70, 2: 20}
         self.assertEqual(moves(rows), expected)
-        self.assertEqual(looks(state(rows))[30][0], 70)
-        self.assertEqual(looks(state(rows))[40][0], 40)
+        self.assertEqual(level(rows, 30, 1), 70)
+        self.assertEqual(level(rows, 40, 1), 40)
 
     def test_alone_holds_the_next_cue_only(self):
         rows = PLAIN + [record(20, 1, 70, ALONE)]
@@ -95,7 +94,7 @@ class RecordTest(unittest.TestCase):
 
     def test_of_a_blocked_cue_itself_changes_it(self):
         for how in (ON, ALONE):
-            self.assertEqual(looks(state(BLOCKED + [record(30, 1, 70, how)]))[30][0], 70)
+            self.assertEqual(level(BLOCKED + [record(30, 1, 70, how)], 30, 1), 70)
 
     def test_a_made_cue_alone_holds_the_next(self):
         rows = PLAIN + [record(15, 1, 70, ALONE)]
@@ -362,20 +361,28 @@ class UnblockTest(unittest.TestCase):
             self.assertEqual(last([record(cue, 1, 1), block(cue), unblock(cue)]), 1)
 
 
-class AskedThroughAnswersTest(unittest.TestCase):
-    """The same from outside alone: what is there is told by what is refused."""
+class LevelTest(unittest.TestCase):
+    """What edits do to the looks of cues before and behind."""
 
-    def test_alone_and_on(self):
-        self.assertTrue(has_move(PLAIN + [record(20, 1, 70, ALONE)], 30, 1))
-        self.assertFalse(has_move(PLAIN + [record(20, 1, 70, ON)], 30, 1))
-        self.assertTrue(has_move(BLOCKED + [record(20, 9, 70, ON)], 30, 9))
+    def test_recorded(self):
+        self.assertEqual(level(PLAIN + [record(20, 1, 70, ALONE)], 10, 1), 50)
+        self.assertEqual(level(PLAIN + [record(20, 1, 70, ALONE)], 20, 1), 70)
+        self.assertEqual(level(PLAIN + [record(20, 1, 70, ALONE)], 30, 1), 50)
+        self.assertEqual(level(PLAIN + [record(20, 1, 70, ON)], 10, 1), 50)
+        self.assertEqual(level(PLAIN + [record(20, 1, 70, ON)], 30, 1), 70)
+        self.assertEqual(level(PLAIN + [record(20, 1, 70, ON)], 50, 1), 40)
+        self.assertEqual(level(BLOCKED + [record(20, 1, 70, ON)], 30, 1), 50)
 
-    def test_levels(self):
-        self.assertEqual(asked_level(PLAIN + [record(20, 1, 70, ALONE)], 20, 1), 70)
-        self.assertEqual(asked_level(PLAIN + [record(20, 1, 70, ALONE)], 30, 1), 50)
-        self.assertEqual(asked_level(PLAIN + [record(20, 1, 70, ON)], 30, 1), 70)
-        self.assertEqual(asked_level(PLAIN + [record(20, 1, 70, ON)], 50, 1), 40)
-        self.assertEqual(asked_level(PLAIN + [release(10, 1, ALONE)], 10, 1), 0)
-        self.assertEqual(asked_level(PLAIN + [delete(10, ALONE)], 20, 1), 50)
-        self.assertEqual(asked_level(PLAIN + [copy(40, 25, ALONE)], 25, 1), 40)
-        self.assertEqual(asked_level(PLAIN + [copy(40, 25, ALONE)], 30, 1), 50)
+    def test_released_and_deleted(self):
+        self.assertEqual(level(PLAIN + [release(10, 1, ALONE)], 10, 1), 0)
+        self.assertEqual(level(PLAIN + [release(10, 1, ALONE)], 20, 1), 50)
+        self.assertEqual(level(PLAIN + [release(10, 1, ON)], 20, 1), 0)
+        self.assertEqual(level(PLAIN + [delete(10, ALONE)], 20, 1), 50)
+        self.assertEqual(level(PLAIN + [delete(10, ON)], 20, 1), 0)
+        self.assertEqual(level(BLOCKED + [delete(10, ON)], 30, 1), 50)
+
+    def test_copied(self):
+        self.assertEqual(level(PLAIN + [copy(40, 25, ALONE)], 25, 1), 40)
+        self.assertEqual(level(PLAIN + [copy(40, 25, ALONE)], 30, 1), 50)
+        self.assertEqual(level(PLAIN + [copy(40, 25, ON)], 30, 1), 40)
+        self.assertEqual(level(BLOCKED + [copy(40, 25, ON)], 30, 1), 50)

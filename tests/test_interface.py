@@ -3,18 +3,28 @@
 import builtins
 import contextlib
 import io
+import inspect
+import sys
 import unittest
 from unittest import mock
 
 from cuesheets.sheets import answers
-from tests.helper import ALONE, block, copy, delete, flat, record, release, unblock
+from tests.helper import (
+    ALONE, BIGGEST, ask_cues, ask_differ, ask_look, ask_moves, ask_track, block, clean, copy, delete, flat, record,
+    release, split, unblock,
+)
 
 CALLS = flat([
     record(10, 1, 50), record(20, 2, 60), record(10, 1, 70, ALONE), copy(20, 30), block(20),
     record(10, 3, 5), release(10, 1), unblock(30), unblock(20), delete(10, ALONE), delete(10),
-    record(0, 0, 0),
+    record(0, 0, 0), record(20, 1, 0), ask_cues(), ask_moves(20), ask_look(30), ask_track(1), ask_differ(20, 30),
+    record(30, 2, 65), ask_differ(20, 30), ask_look(10), ask_track(65), clean(),
 ])
-ANSWERS = [1, 1, 1, 2, 1, 2, 1, 3, 1, 3, 1, 3, 1, 3, 1, -3, 1, 3, 1, 2, 1, -4, 1, -1]
+ANSWERS = flat([
+    [1, 1], [1, 2], [1, 2], [1, 3], [1, 3], [1, 3], [1, 3], [1, -3], [1, 3], [1, 2], [1, -4], [1, -1],
+    [1, 2], [5, 2, 20, 0, 30, 0], [7, 3, 1, 0, 2, 60, 3, 0], [65, 0, 0, 60] + [0] * 62, [5, 2, 0, 1, 0, 0], [1, 0],
+    [1, 2], [4, 1, 2, 60, 65], [1, -4], [1, -1], [1, 2],
+])
 
 
 def refuse(*given, **named):
@@ -39,6 +49,24 @@ class InterfaceTest(unittest.TestCase):
         self.assertEqual(answers([3, 1, 1, 0]), [1, -4])
         self.assertEqual(answers([4, 1]), [1, -4])
         self.assertEqual(answers([5, 1]), [1, -4])
+        self.assertEqual(answers([6]), [1, 0])
+        self.assertEqual(answers([7]), [1, 0])
+        self.assertEqual(answers([8, 1]), [1, -4])
+        self.assertEqual(answers([9, 1]), [1, -4])
+        self.assertEqual(answers([10, 1]), [1, 0])
+        self.assertEqual(answers([11, 1, 1]), [1, -4])
+
+    def test_the_biggest_numbers(self):
+        big = BIGGEST
+        rows = [
+            record(big, big, big, big), release(big, big, big), delete(big, big), copy(big, big, big), block(big),
+            unblock(big), ask_moves(big), ask_look(big), ask_track(big), ask_differ(big, big),
+        ]
+        self.assertEqual(split(answers(flat(rows))), [[-1]] * 4 + [[-4]] * 4 + [[-1], [-4]])
+
+    def test_it_takes_calls_alone(self):
+        self.assertEqual(str(inspect.signature(answers)), "(calls)")
+        self.assertEqual(answers(calls=[7]), [1, 0])
 
     def test_a_list_of_whole_numbers(self):
         given = answers(CALLS)
@@ -50,6 +78,26 @@ class InterfaceTest(unittest.TestCase):
         rows = [record(1 + turn % 24, 1 + turn % 64, turn % 101, turn % 2) for turn in range(400)]
         expected = flat([1, min(turn + 1, 24)] for turn in range(400))
         self.assertEqual(answers(flat(rows)), expected)
+
+    def test_400_calls_with_long_answers(self):
+        rows = [record(1 + turn % 24, 1 + turn, 100 - turn, turn % 2) for turn in range(64)]
+        asked = [ask_look(1), ask_moves(24), ask_track(64), ask_differ(1, 24), ask_cues(), clean(), block(24)]
+        rows = rows + [asked[turn % 7] for turn in range(336)]
+        found = split(answers(flat(rows)))
+        self.assertEqual(len(found), 400)
+        self.assertEqual([len(answer) for answer in found[-7:]], [65, 129, 49, 1 + 3 * found[-4][0], 49, 1, 1])
+
+    def test_long_input_is_gone_through_by_loops(self):
+        rows = [record(1 + turn % 24, 1 + turn % 64, 9, ALONE) for turn in range(393)]
+        rows = rows + [clean(), ask_cues(), ask_moves(1), ask_look(24), ask_track(1), ask_differ(1, 2), block(1)]
+        calls = flat(rows)
+        usual = sys.getrecursionlimit()
+        sys.setrecursionlimit(len(inspect.stack()) + 20)
+        try:
+            found = answers(calls)
+        finally:
+            sys.setrecursionlimit(usual)
+        self.assertEqual(found, answers(calls))
 
     def test_the_list_handed_in_is_the_same_afterwards(self):
         calls = list(CALLS)
@@ -71,6 +119,7 @@ class InterfaceTest(unittest.TestCase):
         answers(flat([record(5, 5, 5), block(5)]))
         self.assertEqual(answers(CALLS), first)
         self.assertEqual(answers(unblock(5)), [1, -4])
+        self.assertEqual(answers(clean() + ask_cues() + ask_look(5)), [1, 0, 1, 0, 1, -4])
 
     def test_nothing_is_printed(self):
         out, err = io.StringIO(), io.StringIO()

@@ -11,7 +11,7 @@ FILES = sorted(path for path in PACKAGE.rglob("*") if path.is_file() and "__pyca
 
 STATEMENTS = (
     ast.Assign, ast.AugAssign, ast.If, ast.While, ast.For, ast.Return, ast.Break, ast.Continue, ast.Pass,
-    ast.Raise, ast.Try, ast.Expr, ast.FunctionDef, ast.ClassDef, ast.ImportFrom,
+    ast.Raise, ast.Try, ast.Expr, ast.FunctionDef, ast.ClassDef,
 )
 NO_EXPRESSIONS = (
     ast.SetComp, ast.DictComp, ast.GeneratorExp, ast.NamedExpr, ast.Starred, ast.Await, ast.Yield, ast.YieldFrom,
@@ -61,8 +61,6 @@ class LanguageTest(unittest.TestCase):
                 self.assertNotIsInstance(node, NO_EXPRESSIONS)
                 if isinstance(node, ast.Constant):
                     self.assertIn(type(node.value), (int, str, bool, type(None)))
-                if isinstance(node, ast.ImportFrom):
-                    self.assertEqual((node.level, node.module.split(".")[0]), (0, "cuesheets"))
 
     def test_names(self):
         for path, tree in self.trees():

@@ -3,7 +3,8 @@
 import unittest
 
 from tests.helper import (
-    ALONE, BIGGEST, ON, block, copy, delete, last, record, release, state, unblock,
+    ALONE, BIGGEST, ON, ask_differ, ask_look, ask_moves, ask_track, block, copy, delete, last, looks, record,
+    release, state, unblock,
 )
 
 NO_NUMBERS = (0, 10000, BIGGEST)
@@ -23,6 +24,7 @@ class RefusalCase(unittest.TestCase):
         with self.subTest(call=call):
             self.assertEqual(last(rows + [call]), number)
             self.assertEqual(state(rows + [call]), state(rows))
+            self.assertEqual(looks(rows + [call]), looks(rows))
 
 
 class RecordRefusalTest(RefusalCase):
@@ -152,3 +154,47 @@ class UnblockRefusalTest(RefusalCase):
         self.refused(SMALL, unblock(1), -3)
         self.refused(SMALL + [unblock(2)], unblock(2), -3)
         self.refused([record(1, 1, 0)], unblock(1), -3)
+
+
+class MovesRefusalTest(RefusalCase):
+    def test_no_such_cue(self):
+        for rows in ([], SMALL, FULL):
+            for cue in NO_NUMBERS + (25, 9999):
+                self.refused(rows, ask_moves(cue), -4)
+        self.refused(SMALL + [delete(3)], ask_moves(3), -4)
+
+
+class LookRefusalTest(RefusalCase):
+    def test_no_such_cue(self):
+        for rows in ([], SMALL, FULL):
+            for cue in NO_NUMBERS + (25, 9999):
+                self.refused(rows, ask_look(cue), -4)
+        self.refused(SMALL + [delete(3)], ask_look(3), -4)
+
+    def test_a_number_between_cues(self):
+        self.refused([record(1, 1, 1), record(3, 1, 1)], ask_look(2), -4)
+
+
+class TrackRefusalTest(RefusalCase):
+    def test_no_such_channel(self):
+        for rows in ([], SMALL, FULL):
+            for channel in NO_CHANNELS:
+                self.refused(rows, ask_track(channel), -1)
+
+
+class DifferRefusalTest(RefusalCase):
+    def test_the_first_is_not_there(self):
+        for rows in (SMALL, FULL):
+            for cue in NO_NUMBERS + (25, 9999):
+                self.refused(rows, ask_differ(cue, 2), -4)
+
+    def test_the_second_is_not_there(self):
+        for rows in (SMALL, FULL):
+            for cue in NO_NUMBERS + (25, 9999):
+                self.refused(rows, ask_differ(2, cue), -4)
+
+    def test_neither_is_there(self):
+        for rows in ([], SMALL, FULL):
+            for cue in NO_NUMBERS + (25, 9999):
+                self.refused(rows, ask_differ(cue, cue), -4)
+                self.refused(rows, ask_differ(cue, 26), -4)
